@@ -1,0 +1,1 @@
+"""Rimread: plane nets of wires in a plate, read back from the rim."""
