@@ -45,15 +45,16 @@ def lessened(row, pivot_row, before):
 # behind them: the answer for these, times the determinant.
 def swept(rows):
     before = 1
+    left = rows
     for free in range(len(rows), 0, -1):
-        ordered = with_pivot(rows, free)
+        ordered = with_pivot(left, free)
         if len(ordered) == 0:
             return (0, [])
         pivot_row = ordered[0]
         # The row that is done goes to the end, so that at last they stand in the order of the columns.
-        rows = [lessened(row, pivot_row, before) for row in ordered[1:]] + [pivot_row[1:]]
+        left = [lessened(row, pivot_row, before) for row in ordered[1:]] + [pivot_row[1:]]
         before = pivot_row[0]
-    return (before, rows)
+    return (before, left)
 
 
 def determinant(grid):
