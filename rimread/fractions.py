@@ -2,6 +2,9 @@
 
 from rimread.errors import NoWorth
 
+NOUGHT = (0, 1)
+ONE = (1, 1)
+
 LONG_BITS = 8000
 LEADING_BITS = 120
 

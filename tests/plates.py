@@ -1,0 +1,182 @@
+"""Nets for the tests: told in short, grown by chance (of a fixed seed), or drawn with straight wires on paper."""
+
+import math
+
+from rimread.fractions import fraction
+
+SIXTY = 10 ** 60 - 1
+# Spots on one rim, sunwise.
+RIM = [(-60, 25), (-39, 52), (-25, 60), (0, 65), (25, 60), (39, 52), (60, 25), (65, 0)]
+RIM = RIM + [(-x, -y) for x, y in RIM]
+
+
+def told(posts, rows, worths=None):
+    rows = [(row.split()[0], row.split()[1:]) for row in rows]
+    wires = sorted(set(wire for point, round_it in rows for wire in round_it))
+    worths = worths or {}
+    return (posts.split(), rows, [(wire, worths.get(wire, (1, 1))) for wire in wires])
+
+
+ONE_POST = told("a", ["a"])
+SIX_POSTS = told("a b c d e f", ["a", "b", "c", "d", "e", "f"])
+EDGE = told("a b", ["a w", "b w"], {"w": (2, 3)})
+STAR = told("a b c", ["a 1", "b 2", "c 3", "m 1 2 3"], {"1": (1, 1), "2": (2, 1), "3": (3, 1)})
+POST_LOOP = told("a", ["a w w"])
+LOOP_WITHIN = told("a", ["a t", "m t l l"])
+TWINS = told("a b", ["a 1 2", "b 2 1"], {"1": (1, 2), "2": (1, 3)})
+DEAD_END = told("a b", ["a 1 w", "b w", "m 1"], {"w": (5, 7)})
+# Three posts, three points within in a ring, one of these with a dead end inside it and a loop beside that.
+RING = told(
+    "a b c",
+    ["c 3", "x 6 1 4 7 8 8", "a 1", "y 4 2 5", "b 2", "z 6 5 3", "d 7"],
+    {"1": (1, 2), "2": (2, 3), "3": (3, 5), "4": (5, 7), "5": (7, 11), "6": (11, 13), "7": (13, 17), "8": (17, 19)},
+)
+SAMPLES = [ONE_POST, SIX_POSTS, EDGE, STAR, POST_LOOP, LOOP_WITHIN, TWINS, DEAD_END, RING]
+
+
+# The rim as wires of its own: round a post stand the rim to the next post, its ends, and the rim from the post ahead.
+# A corner is then known by what follows it sunwise.
+def regions_by_rim(net):
+    posts, rows, worths = net
+    across = {}
+    behind = {}
+    standing = {}
+    for number, post in enumerate(posts):
+        across["IN", post] = ("OUT", posts[number - 1])
+    for point, wires in rows:
+        ends = [(point, place) for place in range(len(wires))]
+        for end, wire in zip(ends, wires):
+            if wire in standing:
+                across[end] = standing[wire]
+                across[standing[wire]] = end
+            standing[wire] = end
+        turn = ends if point not in posts else [("OUT", point)] + ends + [("IN", point)]
+        for place, thing in enumerate(turn):
+            behind[thing] = turn[(place + 1) % len(turn)]
+    count = {point: len(wires) for point, wires in rows}
+    regions = []
+    left = [thing for thing in behind if thing[0] != "OUT"]
+    while left:
+        region = []
+        thing = left[0]
+        while thing in left:
+            left.remove(thing)
+            region.append((thing[1], count[thing[1]]) if thing[0] == "IN" else thing)
+            thing = behind[across[thing]]
+        regions.append(region)
+    return regions
+
+
+def laid(rows, one, other, wire):
+    for point, place in sorted([one, other], reverse=True):
+        rows[point].insert(place, wire)
+
+
+def some_worth(dice):
+    return fraction(dice.randint(1, 1000), dice.randint(1, 1000))
+
+
+def some_fraction(dice, most):
+    return fraction(dice.randint(-most, most), dice.randint(1, most))
+
+
+def some_names(dice, count):
+    signs = "abcdefghijklmnopqrstuvwxyz0123456789"
+    names = set()
+    while len(names) < count:
+        names.add("".join(dice.choice(signs) for place in range(dice.randint(1, 8))))
+    names = sorted(names)
+    dice.shuffle(names)
+    return names
+
+
+# Wire by wire, each one between two corners of one region, or from a corner to a new point.
+def grown(dice, post_count, within_count, wire_count):
+    names = some_names(dice, post_count + within_count)
+    wires = some_names(dice, wire_count)
+    posts = names[:post_count]
+    rows = {post: [] for post in posts}
+    new = names[post_count:]
+    for wire in wires:
+        net = (posts, list(rows.items()), [])
+        region = dice.choice(regions_by_rim(net))
+        if new and dice.randrange(wire_count) < within_count + 1:
+            point, place = dice.choice(region)
+            rows[new[0]] = [wire]
+            rows[point].insert(place, wire)
+            new = new[1:]
+        else:
+            laid(rows, dice.choice(region), dice.choice(region), wire)
+    listed = []
+    for point, round_it in rows.items():
+        turn = dice.randrange(len(round_it)) if point not in posts else 0
+        listed.append((point, round_it[turn:] + round_it[:turn]))
+    dice.shuffle(listed)
+    return (posts, listed, [(wire, some_worth(dice)) for wire in sorted(wires)])
+
+
+def grown_nets(dice, count):
+    nets = []
+    for number in range(count):
+        within = dice.randint(0, 10)
+        nets.append(grown(dice, dice.randint(1, 6), within, dice.randint(within, 15)))
+    return nets
+
+
+def turning(one, two, three):
+    return (two[0] - one[0]) * (three[1] - one[1]) - (two[1] - one[1]) * (three[0] - one[0])
+
+
+def lies_between(spot, one, two):
+    return turning(one, two, spot) == 0 and min(one, two) <= spot <= max(one, two)
+
+
+def crossing(one, other):
+    a, b = one
+    c, d = other
+    if len({a, b, c, d}) < 4:
+        return False
+    return turning(a, b, c) * turning(a, b, d) < 0 and turning(c, d, a) * turning(c, d, b) < 0
+
+
+def clear(line, lines, spots):
+    if any(lies_between(spot, *line) for spot in spots if spot not in line):
+        return False
+    return not any(crossing(line, other) for other in lines)
+
+
+def sunwise_from(start, here, there):
+    return (start - math.atan2(there[1] - here[1], there[0] - here[0])) % (2 * math.pi)
+
+
+# Told is (net, the spot of each point): sunwise on paper, the y rising upwards.
+def drawn(dice, post_count, within_count, wire_count):
+    start = dice.randrange(len(RIM))
+    spots = [RIM[(start + number * len(RIM) // post_count) % len(RIM)] for number in range(post_count)]
+    posts = ["p%d" % number for number in range(post_count)]
+    place = dict(zip(posts, spots))
+    while len(place) < post_count + within_count:
+        spot = (dice.randint(-50, 50), dice.randint(-50, 50))
+        inside = all(turning(spots[k - 1], spots[k], spot) < 0 for k in range(post_count))
+        if inside and spot not in place.values():
+            place["m%d" % len(place)] = spot
+    pairs = [(one, other) for one in place for other in place if one < other]
+    dice.shuffle(pairs)
+    ties = []
+    for one, other in pairs:
+        lines = [(place[a], place[b]) for a, b in ties]
+        if len(ties) < wire_count and clear((place[one], place[other]), lines, place.values()):
+            ties.append((one, other))
+    reached = set(posts)
+    for turn in place:
+        reached |= {end for tie in ties for end in tie if reached & set(tie)}
+    ties = [tie for tie in ties if set(tie) <= reached]
+    rows = []
+    for point in sorted(reached):
+        x, y = place[point]
+        start = math.atan2(-x, y) if point in posts else 0
+        ends = [(tie[1 - tie.index(point)], "w%d" % number) for number, tie in enumerate(ties) if point in tie]
+        ends.sort(key=lambda end: sunwise_from(start, (x, y), place[end[0]]))
+        rows.append((point, [wire for other, wire in ends]))
+    wires = sorted("w%d" % number for number in range(len(ties)))
+    return (posts, rows, [(wire, some_worth(dice)) for wire in wires]), place
