@@ -1,6 +1,8 @@
 """Nets for the tests: told in short, grown by chance (of a fixed seed), or drawn with straight wires on paper."""
 
+import itertools
 import math
+from fractions import Fraction
 
 from rimread.fractions import fraction
 
@@ -32,6 +34,11 @@ RING = told(
     {"1": (1, 2), "2": (2, 3), "3": (3, 5), "4": (5, 7), "5": (7, 11), "6": (11, 13), "7": (13, 17), "8": (17, 19)},
 )
 SAMPLES = [ONE_POST, SIX_POSTS, EDGE, STAR, POST_LOOP, LOOP_WITHIN, TWINS, DEAD_END, RING]
+TRIANGLE = told("a b c", ["a 1 2", "b 3 1", "c 2 3"], {"1": (1, 2), "2": (2, 3), "3": (3, 4)})
+CROSS = told("a b c d", ["a 1", "b 2", "c 3", "d 4", "m 1 2 3 4"], {"1": (1, 2), "2": (2, 3), "3": (3, 4)})
+CHAIN = told("a b", ["a 1", "m 1 2", "b 2"], {"1": (1, 2), "2": (1, 3)})
+# No loop, dead end, chain or twins, but one wire would do.
+BRIDGE = told("a b", ["a 1 2", "m 1 4 3", "n 5 2 3", "b 5 4"], {"1": (1, 2), "3": (7, 5), "4": (2, 3), "5": (9, 4)})
 
 
 # The rim as wires of its own: round a post stand the rim to the next post, its ends, and the rim from the post ahead.
@@ -113,6 +120,49 @@ def grown(dice, post_count, within_count, wire_count):
         listed.append((point, round_it[turn:] + round_it[:turn]))
     dice.shuffle(listed)
     return (posts, listed, [(wire, some_worth(dice)) for wire in sorted(wires)])
+
+
+# A net has no fewer wires than ways in which the table may change when worths do: the rank of the grid that has
+# for each wire, for each two posts, the fall along it for the height 1 at the one times that for the other one.
+# Just a net without a wire too many has as many wires.
+def fewest_wires(net):
+    within = [row[0] for row in net[1] if row[0] not in net[0]]
+    ends = {}
+    for point, wires in net[1]:
+        for wire in wires:
+            ends.setdefault(wire, []).append(point)
+    pull = {(one, other): Fraction(0) for one, row in net[1] for other, row in net[1]}
+    for wire, worth in net[2]:
+        one, other = ends[wire]
+        for near, far in ((one, other), (other, one)):
+            pull[near, near] += Fraction(*worth)
+            pull[near, far] -= Fraction(*worth)
+    rows = [[pull[point, other] for other in within] + [-pull[point, post] for post in net[0]] for point in within]
+    swept = cleared_rows(rows, len(within))
+    heights = {point: row[len(within):] for point, row in zip(within, swept)}
+    for post in net[0]:
+        heights[post] = [Fraction(int(post == other)) for other in net[0]]
+    falls = [[one - other for one, other in zip(heights[a], heights[b])] for a, b in ends.values()]
+    changes = [[one * other for one, other in itertools.combinations(fall, 2)] for fall in falls]
+    return len(cleared_rows(changes, len(changes[0]))) if changes else 0
+
+
+# Rows without their noughts: each one begins with a 1 alone in its column, in order of these.
+def cleared_rows(rows, columns):
+    done = []
+    left = rows
+    for column in range(columns):
+        pivot = next((row for row in left if row[column] != 0), None)
+        if pivot is not None:
+            left = [row for row in left if row is not pivot]
+            pivot = [entry / pivot[column] for entry in pivot]
+            left = [less_times(row, row[column], pivot) for row in left]
+            done = [less_times(row, row[column], pivot) for row in done] + [pivot]
+    return done
+
+
+def less_times(row, share, other):
+    return [entry - share * beside for entry, beside in zip(row, other)]
 
 
 def grown_nets(dice, count):
