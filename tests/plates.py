@@ -230,3 +230,22 @@ def drawn(dice, post_count, within_count, wire_count):
         rows.append((point, [wire for other, wire in ends]))
     wires = sorted("w%d" % number for number in range(len(ties)))
     return (posts, rows, [(wire, some_worth(dice)) for wire in wires]), place
+
+
+# Drawn nets, with some posts made points within where all points hang on a post still.
+def drawn_nets(dice, count, wire_count):
+    nets = []
+    while len(nets) < count:
+        posts, rows, worths = drawn(dice, dice.randint(3, 6), dice.randint(0, 8), wire_count)[0]
+        net = (posts[:dice.randint(max(1, len(posts) - 2), len(posts))], rows, worths)
+        if all_hang(net):
+            nets.append(net)
+    return nets
+
+
+def all_hang(net):
+    reached = set(net[0])
+    for turn in net[1]:
+        wires = {wire for point, round_it in net[1] if point in reached for wire in round_it}
+        reached |= {point for point, round_it in net[1] if wires & set(round_it)}
+    return len(reached) == len(net[1])

@@ -1,0 +1,39 @@
+"""Facing runs of posts, and the minors of a table for them."""
+
+from rimread.fractions import NOUGHT, minus
+from rimread.grids import determinant
+
+
+# All lists of so many numbers from the first ones on, rising.
+def rising_lists(numbers, count):
+    lists = [[]]
+    for number in numbers:
+        lists = lists + [chosen + [number] for chosen in lists if len(chosen) < count]
+    return [chosen for chosen in lists if len(chosen) == count]
+
+
+# Of numbers that rise, as many in P as in Q. Going round sunwise P may begin with the first number, or with
+# one of the last, so that the first one comes into it still.
+def runs_with_least_ahead(numbers):
+    count = len(numbers) // 2
+    runs = []
+    for turn in range(count):
+        start = (len(numbers) - turn) % len(numbers)
+        around = numbers[start:] + numbers[:start]
+        runs.append((around[:count], list(reversed(around[count:]))))
+    return runs
+
+
+def facing_runs(n):
+    runs = []
+    for count in range(1, n // 2 + 1):
+        alike = []
+        for numbers in rising_lists(list(range(n)), 2 * count):
+            alike.extend(runs_with_least_ahead(numbers))
+        runs.extend(sorted(alike))
+    return runs
+
+
+def minor_of(table, P, Q):
+    found = determinant([[table[i][j] for j in Q] for i in P])
+    return found if len(P) % 2 == 0 else minus(NOUGHT, found)
