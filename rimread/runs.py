@@ -34,6 +34,10 @@ def facing_runs(n):
     return runs
 
 
+def grid_part(table, rows, columns):
+    return [[table[i][j] for j in columns] for i in rows]
+
+
 def minor_of(table, P, Q):
-    found = determinant([[table[i][j] for j in Q] for i in P])
+    found = determinant(grid_part(table, P, Q))
     return found if len(P) % 2 == 0 else minus(NOUGHT, found)

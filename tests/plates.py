@@ -5,6 +5,9 @@ import math
 from fractions import Fraction
 
 from rimread.fractions import fraction
+from rimread.lenses import is_lean
+from rimread.lines import lines_of
+from rimread.steps import step_done, steps_for
 
 SIXTY = 10 ** 60 - 1
 # Spots on one rim, sunwise.
@@ -249,3 +252,127 @@ def all_hang(net):
         wires = {wire for point, round_it in net[1] if point in reached for wire in round_it}
         reached |= {point for point, round_it in net[1] if wires & set(round_it)}
     return len(reached) == len(net[1])
+
+
+# Lean nets: at the rim an edge or a spike comes on the outside, where the net stays lean. Edges lead past posts without
+# wires, too. Where wires enough are asked for, all lines meet at last: fifteen wires of six posts.
+def lean_grown(dice, post_count, wire_count):
+    names = some_names(dice, post_count + wire_count)
+    posts = names[:post_count]
+    net = (posts, [(post, []) for post in dice.sample(posts, post_count)], [])
+    for wire, point in zip(some_names(dice, wire_count), names[post_count:]):
+        grown_ones = [with_edge(net, one, other, wire) for one, other in edge_places(dice, net)]
+        grown_ones += [with_spike(net, post, wire, point) for post in posts]
+        grown_ones = [one for one in grown_ones if is_lean(one)]
+        if not grown_ones:
+            break
+        net = dice.choice(grown_ones)
+    listed = []
+    for point, round_it in net[1]:
+        turn = dice.randrange(len(round_it)) if point not in posts else 0
+        listed.append((point, round_it[turn:] + round_it[:turn]))
+    return (posts, listed, [(wire, some_worth(dice)) for wire, worth in net[2]])
+
+
+def edge_places(dice, net):
+    wires_round = dict(net[1])
+    around = [post for post in net[0] if wires_round[post] or dice.random() < 0.7]
+    return [(post, around[number - 1]) for number, post in enumerate(around) if len(around) > 1]
+
+
+# The edge to the post ahead stands last in the list, that from the next one first.
+def with_edge(net, post, ahead, wire):
+    instead = {post: lambda wires: wires + [wire], ahead: lambda wires: [wire] + wires}
+    rows = [(point, instead.get(point, list)(wires)) for point, wires in net[1]]
+    return (net[0], rows, sorted(net[2] + [(wire, (1, 1))]))
+
+
+def with_spike(net, post, wire, name):
+    rows = [(point, [wire] if point == post else wires) for point, wires in net[1]]
+    return (net[0], rows + [(name, [wire] + dict(net[1])[post])], sorted(net[2] + [(wire, (1, 1))]))
+
+
+def lean_nets(dice, count):
+    nets = []
+    for number in range(count):
+        post_count = dice.randint(1, 6)
+        nets.append(lean_grown(dice, post_count, dice.randint(0, post_count * (post_count - 1) // 2)))
+    return nets
+
+
+# A lean net of each shape of so many posts, all worths 1: as each has a wire that can be peeled at the rim, all come of
+# the net without wires by wires put on there.
+def all_lean_nets(post_count):
+    posts = ["p%d" % number for number in range(post_count)]
+    nets = [(posts, [(post, []) for post in posts], [])]
+    shapes = {told_by_lines(nets[0])}
+    for net in nets:
+        wire = "w%02d" % len(net[2])
+        grown_ones = [with_spike(net, post, wire, "m%s" % wire) for post in posts]
+        for one, post in enumerate(posts):
+            around = posts[one + 1:] + posts[:one]
+            reached = next((number for number, other in enumerate(around) if dict(net[1])[other]), len(around) - 1)
+            grown_ones += [with_edge(net, other, post, wire) for other in around[:reached + 1]]
+        for other in grown_ones:
+            if is_lean(other) and told_by_lines(other) not in shapes:
+                shapes.add(told_by_lines(other))
+                nets.append(other)
+    return nets
+
+
+# The places that lines join, and for each line those that cross its wires, in order.
+def told_by_lines(net):
+    lines = lines_of(net)
+    crossed = [tuple(tuple(other[:2] for other in lines if wire in other[2]) for wire in line[2]) for line in lines]
+    return tuple(line[:2] for line in lines), tuple(crossed)
+
+
+def full_nets(dice, count):
+    nets = []
+    while len(nets) < count:
+        net = lean_grown(dice, 6, 15)
+        nets += [net] if len(net[2]) == 15 else []
+    return nets
+
+
+# The same net with other names, its rows in another order, the lists of its points within begun elsewhere.
+def renamed(dice, net, posts_too=False):
+    points = [point for point, wires in net[1]]
+    new = dict(zip(points, some_names(dice, len(points))))
+    while not posts_too and set(new.values()) & set(net[0]):
+        new = dict(zip(points, some_names(dice, len(points))))
+    if not posts_too:
+        new.update({post: post for post in net[0]})
+    names = dict(zip([wire for wire, worth in net[2]], some_names(dice, len(net[2]))))
+    rows = []
+    for point, wires in net[1]:
+        turn = dice.randrange(len(wires)) if point not in net[0] else 0
+        rows.append((new[point], [names[wire] for wire in wires[turn:] + wires[:turn]]))
+    dice.shuffle(rows)
+    return ([new[post] for post in net[0]], rows, sorted((names[wire], worth) for wire, worth in net[2]))
+
+
+# Stars and rings done by chance.
+def turned_about(dice, net, count):
+    for number in range(count):
+        steps = [step for step in steps_for(net) if step[0] == "star"]
+        name = next("t%d" % number for number in range(99) if "t%d" % number not in dict(net[1]))
+        for region in regions_by_rim(net):
+            steps += ring_of(net, region, name)
+        if not steps:
+            break
+        net = step_done(net, dice.choice(steps))
+    return net
+
+
+def ring_of(net, region, name):
+    wires_round = dict(net[1])
+    at_rim = [corner for corner in region if corner[0] in net[0] and corner[1] in (0, len(wires_round[corner[0]]))]
+    if at_rim or len(region) != 3:
+        return []
+    wires = [wires_round[point][place] for point, place in region]
+    return [("ring", *wires, name)] if len(set(wires)) == 3 else []
+
+
+def all_ones(net):
+    return (net[0], net[1], [(wire, (1, 1)) for wire, worth in net[2]])
