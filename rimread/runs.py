@@ -1,6 +1,6 @@
 """Facing runs of posts, and the minors of a table for them."""
 
-from rimread.fractions import NOUGHT, minus
+from rimread.fractions import NOUGHT, less, minus
 from rimread.grids import determinant
 
 
@@ -41,3 +41,11 @@ def grid_part(table, rows, columns):
 def minor_of(table, P, Q):
     found = determinant(grid_part(table, P, Q))
     return found if len(P) % 2 == 0 else minus(NOUGHT, found)
+
+
+# Told is a tuple (P, Q), the first one whose minor has the wrong sign, or None.
+def runs_below_nought(table):
+    for P, Q in facing_runs(len(table)):
+        if less(minor_of(table, P, Q), NOUGHT):
+            return (P, Q)
+    return None

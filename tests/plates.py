@@ -4,7 +4,7 @@ import itertools
 import math
 from fractions import Fraction
 
-from rimread.fractions import fraction
+from rimread.fractions import fraction, over, plus, times
 from rimread.lenses import is_lean
 from rimread.lines import lines_of
 from rimread.steps import step_done, steps_for
@@ -376,3 +376,105 @@ def ring_of(net, region, name):
 
 def all_ones(net):
     return (net[0], net[1], [(wire, (1, 1)) for wire, worth in net[2]])
+
+
+def wholes(rows):
+    return [[(number, 1) for number in row] for row in rows]
+
+
+# By the words of the document: beginning with any, the numbers rise all round.
+def stand_sunwise(numbers):
+    turns = [numbers[k:] + numbers[:k] for k in range(len(numbers))]
+    return any(turn == sorted(turn) for turn in turns)
+
+
+def runs_by_words(n):
+    runs = []
+    for k in range(1, n + 1):
+        found = []
+        for chosen in itertools.permutations(range(n), 2 * k):
+            P = list(chosen[:k])
+            Q = list(chosen[k:])
+            if min(chosen) in P and stand_sunwise(P + Q[::-1]):
+                found.append((P, Q))
+        runs += sorted(found)
+    return runs
+
+
+def minor_by_orders(table, P, Q):
+    whole = Fraction(0)
+    for order in itertools.permutations(range(len(Q))):
+        swaps = sum(order[i] > order[j] for i, j in itertools.combinations(range(len(Q)), 2))
+        part = Fraction((-1) ** (swaps + len(P)))
+        for i, j in enumerate(order):
+            part *= Fraction(*table[P[i]][Q[j]])
+        whole += part
+    return whole.numerator, whole.denominator
+
+
+# Steps gone backwards, by chance: a loop or a dead end comes, a wire becomes a chain or twins, stars and rings are done.
+# Lines and answer table stay those of the net; wires come as long as it has fewer than so many.
+def thickened(dice, net, wire_count):
+    while len(net[2]) < wire_count:
+        posts, rows, worths = net
+        rows = {point: list(wires) for point, wires in rows}
+        wire = new_name(dice, [one for one, worth in worths])
+        point = new_name(dice, rows)
+        split = fraction(dice.randint(1, 9), dice.randint(1, 9))
+        kind = dice.choice(["loop", "dead", "chain", "twins"]) if worths else dice.choice(["loop", "dead"])
+        worths = dict(worths)
+        if kind == "loop":
+            corner = dice.choice([(at, place) for at in rows for place in range(len(rows[at]) + (at in posts))])
+            laid(rows, corner, corner, wire)
+            worths[wire] = split
+        elif kind == "dead":
+            at = dice.choice(list(rows))
+            rows[at].insert(dice.randint(0, len(rows[at])), wire)
+            rows[point] = [wire]
+            worths[wire] = split
+        else:
+            beside_one(dice.choice(list(worths)), rows, worths, wire, split, point if kind == "chain" else None)
+        net = turned_about(dice, (posts, list(rows.items()), sorted(worths.items())), dice.randint(0, 2))
+    return net
+
+
+# The wire is led over a new point, or gets a twin. Split in the ratio of 1 to the split its worth stays as a whole.
+def beside_one(wire, rows, worths, new, split, point):
+    near, far = [(at, place) for at in rows for place, name in enumerate(rows[at]) if name == wire]
+    whole = plus((1, 1), split)
+    if point is not None:
+        rows[far[0]][far[1]] = new
+        rows[point] = [wire, new]
+        worths[new] = times(worths[wire], over(whole, split))
+        worths[wire] = times(worths[wire], whole)
+    elif near[0] != far[0]:
+        rows[near[0]].insert(near[1] + 1, new)
+        rows[far[0]].insert(far[1], new)
+        worths[new] = times(worths[wire], over(split, whole))
+        worths[wire] = over(worths[wire], whole)
+
+
+def new_name(dice, taken):
+    name = some_names(dice, 1)[0]
+    while name in taken:
+        name = some_names(dice, 1)[0]
+    return name
+
+
+def worths_by_lines(net):
+    crossed = {}
+    for number, line in enumerate(lines_of(net)):
+        for wire in line[2]:
+            crossed.setdefault(wire, []).append(number)
+    return sorted((crossed[wire], worth) for wire, worth in net[2])
+
+
+# What an asker may do with a net that was told to him, or that he handed in: no answer is to hang on it.
+def spoil(net):
+    for point, wires in net[1]:
+        wires.append("x")
+        wires.reverse()
+    net[0].append("x")
+    net[1].reverse()
+    net[1].append(("y", []))
+    net[2].clear()

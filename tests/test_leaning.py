@@ -2,8 +2,8 @@ import copy
 import random
 import unittest
 
-from plates import BRIDGE, CHAIN, CROSS, DEAD_END, EDGE, LOOP_WITHIN, ONE_POST, POST_LOOP, RING, SAMPLES, SIX_POSTS
-from plates import STAR, TRIANGLE, TWINS, drawn_nets, fewest_wires, grown, grown_nets, told
+from plates import BRIDGE, CHAIN, CROSS, DEAD_END, EDGE, LOOP_WITHIN, ONE_POST, POST_LOOP, SAMPLES, SIX_POSTS
+from plates import STAR, TRIANGLE, TWINS, drawn_nets, fewest_wires, grown, grown_nets, spoil, told
 from rimread.answers import answer_table
 from rimread.leaning import made_lean
 from rimread.lenses import is_lean
@@ -109,11 +109,7 @@ class LeaningTest(unittest.TestCase):
             steps, lean = made_lean(net)
             right = copy.deepcopy((steps, lean))
             steps.clear()
-            lean[0].clear()
-            for point, wires in lean[1]:
-                wires.append("x")
-            lean[1].clear()
-            lean[2].clear()
+            spoil(lean)
             self.assertEqual(net, kept)
             self.assertEqual(made_lean(net), right)
 

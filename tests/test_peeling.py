@@ -2,7 +2,7 @@ import copy
 import random
 import unittest
 
-from plates import CROSS, EDGE, ONE_POST, SIX_POSTS, STAR, TRIANGLE, full_nets, lean_nets, told
+from plates import CROSS, EDGE, ONE_POST, SIX_POSTS, STAR, TRIANGLE, full_nets, lean_nets, spoil, told
 from rimread.lenses import is_lean
 from rimread.nets import vet
 from rimread.peeling import peelable, peeled
@@ -128,11 +128,7 @@ class PeeledTest(unittest.TestCase):
             kept = copy.deepcopy(net)
             left = peeled(net, wire)
             right = copy.deepcopy(left)
-            left[0].append("x")
-            for point, wires in left[1]:
-                wires.append("x")
-            left[1].clear()
-            left[2].append("x")
+            spoil(left)
             self.assertEqual(net, kept)
             self.assertEqual(peeled(net, wire), right)
 

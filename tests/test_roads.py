@@ -3,7 +3,7 @@ import random
 import unittest
 
 from plates import BRIDGE, CHAIN, CROSS, EDGE, LOOP_WITHIN, ONE_POST, SIX_POSTS, STAR, TRIANGLE, TWINS, drawn_nets
-from plates import all_lean_nets, full_nets, grown_nets, lean_nets, renamed, told, turned_about
+from plates import all_lean_nets, full_nets, grown_nets, lean_nets, renamed, told, turned_about, worths_by_lines
 from rimread.answers import answer_table
 from rimread.errors import NotLean, Unlike
 from rimread.leaning import made_lean
@@ -159,14 +159,6 @@ def shapes_by_places(nets):
     for net in nets:
         alike.setdefault(tuple(line[:2] for line in lines_of(net)), []).append(net)
     return alike
-
-
-def worths_by_lines(net):
-    crossed = {}
-    for number, line in enumerate(lines_of(net)):
-        for wire in line[2]:
-            crossed.setdefault(wire, []).append(number)
-    return sorted((crossed[wire], worth) for wire, worth in net[2])
 
 
 if __name__ == "__main__":

@@ -1,46 +1,11 @@
 import copy
-import itertools
 import random
 import unittest
-from fractions import Fraction
 
-from plates import CROSS, SIXTY, SIX_POSTS, STAR, drawn_nets, grown, some_fraction
+from plates import CROSS, SIXTY, SIX_POSTS, STAR, drawn_nets, grown, minor_by_orders, runs_by_words, some_fraction
+from plates import wholes
 from rimread.answers import answer_table
 from rimread.runs import facing_runs, minor_of
-
-
-def wholes(rows):
-    return [[(number, 1) for number in row] for row in rows]
-
-
-# By the words of the document: beginning with any, the numbers rise all round.
-def stand_sunwise(numbers):
-    turns = [numbers[k:] + numbers[:k] for k in range(len(numbers))]
-    return any(turn == sorted(turn) for turn in turns)
-
-
-def runs_by_words(n):
-    runs = []
-    for k in range(1, n + 1):
-        found = []
-        for chosen in itertools.permutations(range(n), 2 * k):
-            P = list(chosen[:k])
-            Q = list(chosen[k:])
-            if min(chosen) in P and stand_sunwise(P + Q[::-1]):
-                found.append((P, Q))
-        runs += sorted(found)
-    return runs
-
-
-def minor_by_orders(table, P, Q):
-    whole = Fraction(0)
-    for order in itertools.permutations(range(len(Q))):
-        swaps = sum(order[i] > order[j] for i, j in itertools.combinations(range(len(Q)), 2))
-        part = Fraction((-1) ** (swaps + len(P)))
-        for i, j in enumerate(order):
-            part *= Fraction(*table[P[i]][Q[j]])
-        whole += part
-    return whole.numerator, whole.denominator
 
 
 class FacingRunsTest(unittest.TestCase):
