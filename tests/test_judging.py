@@ -1,4 +1,5 @@
 import copy
+import itertools
 import random
 import unittest
 
@@ -133,6 +134,20 @@ class JudgedTest(unittest.TestCase):
             self.held(table)
             words.append(judged(table)[0])
         self.assertEqual(set(words), {"uneven", "sum", "minor", "net"})
+
+    # Where entries are small, minors are often just 0.
+    def test_small_whole_entries(self):
+        pairs = list(itertools.combinations(range(4), 2))
+        found = {True: 0, False: 0}
+        for worths in itertools.product(range(3), repeat=6):
+            net = self.held(table_of(4, *[(i, j, worth) for (i, j), worth in zip(pairs, worths)]))
+            found[net is None] += 1
+        dice = random.Random(109)
+        for turn in range(200):
+            pairs = list(itertools.combinations(range(dice.randint(5, 6)), 2))
+            wires = [(i, j, dice.randint(0, 7 // min(j - i, 6 + i - j) ** 2)) for i, j in pairs]
+            found[self.held(table_of(pairs[-1][1] + 1, *wires)) is None] += 1
+        self.assertGreater(min(found.values()), 200)
 
     def test_of_one_row(self):
         self.assertEqual(judged([[(0, 1)]]), ("net", (["p0"], [("p0", [])], [])))

@@ -246,6 +246,29 @@ class LanguageTest(unittest.TestCase):
         self.none("L25", [ast.Attribute], lambda source, node: (
             is_called(source, node) and node.attr not in METHODS | own))
 
+    def test_methods_and_values_of_own_classes(self):
+        taken = set()
+        for kind in (str, int, list, tuple, dict, set, frozenset, bytes):
+            taken |= set(name for name in dir(kind) if not name.startswith("__"))
+        methods = set()
+        values = set()
+        for source in SOURCES:
+            for node in source.nodes(ast.ClassDef):
+                methods |= set(part.name for part in node.body if isinstance(part, ast.FunctionDef))
+            values |= set(node.attr for node in source.nodes(ast.Attribute) if isinstance(node.ctx, ast.Store))
+        self.assertEqual(methods & values, set(), "L18")
+        self.assertEqual(methods & taken - METHODS - {"add", "discard"}, set(), "L26")
+        self.assertEqual(values & taken, set(), "L26")
+        self.assertEqual(methods & {"__eq__", "__len__", "__repr__", "__str__"}, set(), "L28")
+
+    def test_tables_of_the_top(self):
+        for source in SOURCES:
+            for node in source.tree.body:
+                if isinstance(node, ast.Assign):
+                    within = [part for part in ast.walk(node.value) if isinstance(part, (ast.List, ast.Dict))]
+                    self.assertLessEqual(len(within), 1, "L15 " + source.path.name)
+                    self.assertTrue(not within or within[0] is node.value, "L15 " + source.path.name)
+
     def test_walked_at_once(self):
         self.none("L23", [ast.Call], is_kept_walk)
 
