@@ -24,14 +24,14 @@ DEED_WORDS = {
 }
 
 
+# Split at each blank: beside a blank too many stands a word without signs, and counts like the others.
 def words_of(row):
-    words = row.split(" ")
-    if "\n" in row or "" in words:
-        raise NoRow("a row has words with one blank between two")
-    return words
+    if "\n" in row:
+        raise NoRow("only a row that tells a net has a line feed")
+    return row.split(" ")
 
 
-# Whether a name is one, the deed itself tells.
+# Whether a name is one, the deed itself tells, also of a word without signs.
 def word_read(word, kind):
     value = word
     if kind == "number":

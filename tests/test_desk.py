@@ -1,13 +1,14 @@
 import random
+import re
 import unittest
 
-from plates import BRIDGE, CROSS, EDGE, LOOP_WITHIN, RING, SAMPLES, STAR, TRIANGLE, TWINS, drawn_nets, full_nets, lean_nets
-from plates import told
+from plates import BRIDGE, CROSS, EDGE, LOOP_WITHIN, ONE_POST, RING, SAMPLES, STAR, TRIANGLE, TWINS, drawn_nets, full_nets
+from plates import lean_nets, told
 from rimread.answers import answer_table
 from rimread.deeds import deed_done
 from rimread.desk import Desk
 from rimread.errors import Loose, NoCorner, NoNet, NoPlane, NoRegion, NoRow, NoStep, NotLean, NoText, NoWire, NoWorth
-from rimread.errors import Taken, TooMany
+from rimread.errors import RimError, Taken, TooMany
 from rimread.leaning import made_lean
 from rimread.notes import grid_shown, net_read, net_shown
 
@@ -22,20 +23,55 @@ NO_ROWS = [
     "lay a 00 b 1 w 1/1", "lay a 0 b 01 w 1/1", "lay a -1 b 1 w 1/1", "lay a +0 b 1 w 1/1", "lay a -0 b 1 w 1/1",
     "lay a x b 1 w 1/1", "lay a 0 b 1.0 w 1/1", "lay a 0/1 b 1 w 1/1", "lay a 0 b 1 w 1", "lay a 0 b 1 w 2/4",
     "lay a 0 b 1 w 0/1", "lay a 0 b 1 w -1/2", "lay a 0 b 1 w +1/2", "lay a 0 b 1 w 01/2", "lay a 0 b 1 w 1/0",
+    "lay a  b 1 w 1/1", "lay a 0 b  w 1/1", "lay a 0 b 1 w ", "lay a 0 b 1  ", "lay      ",
     "lay a 0 b 1 1/1 w", "lay 0 a b 1 w 1/1", "lay a 0 b 1 w 1/1/1", "lay a 0 b 1 w /1", "lay a 0 b 1 w 1/",
     "grow", "grow a 0 w 1/1", "grow a 0 w 1/1 n n", "grow a 0 w n 1/1", "grow a 0  w 1/1 n", "grow a 00 w 1/1 n",
-    "grow a -1 w 1/1 n", "grow a 0 w 3/6 n", "grow a 0 w 0/1 n", "grow a 0 w 1/1 n\n", "grow a 0 w 1/1 ", "grow a 0 w 1 n",
-    "cut", "cut ", "cut 1 2", "cut  1", "cut 1 ", " cut 1", "cut 1\n", "Cut 1",
+    "grow a -1 w 1/1 n", "grow a 0 w 3/6 n", "grow a 0 w 0/1 n", "grow a 0 w 1/1 n\n", "grow a 0 w 1 n", "grow a 0 w  n",
+    "grow a  w 1/1 n", "grow a 0 w 1/1 n ", "grow  a 0 w 1/1", " grow a 0 w 1/1",
+    "cut", "cut  ", "cut 1 2", "cut  1", "cut 1 ", " cut 1", "cut 1\n", "Cut 1",
     "weigh", "weigh 1", "weigh 1 2", "weigh 1 2/4", "weigh 1 0/1", "weigh 1 -1/2", "weigh 1 1/1 1", "weigh  1 1/1",
-    "weigh 1 1/1 ", "weigh 1/1", "weigh 1 1.5", "weigh 1 1//1", "weigh  1/1", "weigh 1 1/1\n",
-    "loop", "loop ", "loop 1 2", "loop\n1", "dead", "dead ", "dead 1 2", "chain", "chain ", "chain m m", "twins", "twins 1",
-    "twins 1 ", "twins  1", "twins 1 2 3", "star", "star ", "star m m", "star m\n", "ring", "ring 1 2 3", "ring 1 2 3 ",
-    "ring 1 2 3 n n", "ring  1 2 3", "ring 1  2 n", "ring 1 2 3 n\n",
+    "weigh 1 1/1 ", "weigh 1/1", "weigh 1 1.5", "weigh 1 1//1", "weigh 1 1/1\n", "weigh ", "weigh  ", "weigh 1 ",
+    "weigh   1/1",
+    "loop", "loop  ", "loop 1 2", "loop\n1", "loop \n", "loop 1 ", "dead", "dead  ", "dead 1 2", "dead  1", "chain",
+    "chain  ", "chain m m", "chain m ", "twins", "twins ", "twins   ", "twins 1", "twins 1 2 3", "twins 1 2 ", "twins 1  2",
+    "star", "star  ", "star m m", "star m\n", "star  m", "star m ", "ring", "ring ", "ring   ", "ring     ", "ring 1 2 3",
+    "ring 1 2 3 n n", "ring  1 2 3 n", "ring 1 2 3 n ", "ring 1 2 3  n", "ring 1 2 3 n\n", " ring 1 2 3", " star",
     "judge", "judge ", "judge  0/1", "judge 0/1 ", "judge 0", "judge 0/2", "judge -0/1", "judge 00/1", "judge 0/01",
     "judge 2/4", "judge +1/1", "judge 1/-1", "judge x", "judge 0/1\n", "judge\n0/1", "judge 0/1 0/1", "judge 0/1 0/1 0/1",
     "judge" + " 0/1" * 5, "judge" + " 0/1" * 8, "judge" + " 0/1" * 35, "judge" + " 0/1" * 37, "judge" + " 0/1" * 49,
     "judge" + " 0/1" * 3 + " 0", "judge" + " 0/1" * 3 + "  0/1", "judges 0/1", "Judge 0/1",
 ]
+# What the words behind the first one are, of each deed: n a name, k a number, w a worth.
+DEEDS_BY_WORDS = {
+    "lay": "nknknw", "grow": "nknwn", "cut": "n", "weigh": "nw", "loop": "n", "dead": "n", "chain": "n", "twins": "nn",
+    "star": "n", "ring": "nnnn",
+}
+WORDS_TRIED = {
+    "n": ["", "", "a", "b", "m", "1", "2", "3", "v", "w"], "k": ["", "0", "0", "1", "1", "2", "00"],
+    "w": ["", "1/2", "3/1", "3/1", "2/4"],
+}
+
+
+# A row by its words: the deed, or None where the row is refused with NoRow.
+def deed_by_words(row):
+    word, *others = row.split(" ")
+    kinds = DEEDS_BY_WORDS.get(word, "")
+    if len(others) != len(kinds):
+        return None
+    values = list(others)
+    for place, kind in enumerate(kinds):
+        if kind == "k" and re.fullmatch("0|[1-9][0-9]*", others[place]) is None:
+            return None
+        if kind == "w" and others[place] not in ("1/2", "3/1"):
+            return None
+        if kind != "n":
+            parts = [int(part) for part in others[place].split("/")]
+            values[place] = parts[0] if kind == "k" else tuple(parts)
+    if word in ("lay", "grow"):
+        values = [tuple(values[:2])] + values[2:]
+    if word == "lay":
+        values[1:3] = [tuple(values[1:3])]
+    return (word, *values)
 
 
 class DeskTest(unittest.TestCase):
@@ -182,6 +218,69 @@ class DeskTest(unittest.TestCase):
             with self.subTest(row=row):
                 for desk in desks:
                     self.refused(NoRow, desk, row)
+
+    # A row is split at each blank: a name without signs is told to the deed, which refuses it in its own way.
+    def test_words_without_signs(self):
+        pairs = [
+            ("cut ", NoWire), ("weigh  1/2", NoWire), ("loop ", NoStep), ("dead ", NoStep), ("chain ", NoStep),
+            ("star ", NoStep), ("twins  ", NoStep), ("twins 1 ", NoStep), ("twins  1", NoStep), ("ring    ", NoStep),
+            ("ring 1 2 3 ", NoStep), ("ring  1 2 3", NoStep), ("ring 1  2 n", NoStep), ("ring 1 2  n", NoStep),
+            ("lay  0 a 0 w 1/2", NoCorner), ("lay a 0  0 w 1/2", NoCorner), ("lay  0  0  1/2", NoCorner),
+            ("lay a 0 a 0  1/2", Taken), ("lay a 0 a 9  1/2", NoCorner), ("lay a 0 a 0  1001/1", Taken),
+            ("grow  0 w 1/2 n", NoCorner), ("grow a 0  1/2 n", Taken), ("grow a 0 w 1/2 ", Taken), ("grow a 0  1/2 ", Taken),
+            ("grow a 0 w 1001/1 ", Taken),
+        ]
+        for row, refusal in pairs:
+            for net in (ONE_POST, STAR, TWINS, TRIANGLE):
+                with self.subTest(row=row, net=net):
+                    self.refused(refusal, self.desk_with(net), row)
+        self.refused(NoRegion, self.desk_with(STAR), "lay a 0 c 1  1/2")
+        full = self.desk_with(STAR)
+        for number in range(12):
+            full.say("lay a 0 a 0 w%d 1/1" % number)
+        self.refused(Taken, full, "lay a 0 a 0  1/2")
+        self.refused(Taken, full, "grow a 0 w 1/2 ")
+
+    # Ahead of a worth two blanks, at a net with names of eight signs.
+    def test_long_names_and_two_blanks(self):
+        rows = [
+            "arjmu0or arjmu0or arjm90or arjmg0or arjm10or arjm10or arjm80or arjmn0or arjmn0or arjmg0or arjm90or",
+            "arjm90or arjmu0or", "arjmg0or", "arjm10or arjm80or", "arjmn0or",
+        ]
+        worths = {
+            "arjm10or": (3, 2), "arjm80or": (5, 2), "arjm90or": (5, 2), "arjmg0or": (222, 1), "arjmn0or": (6, 1),
+            "arjmu0or": (5, 1),
+        }
+        desk = self.desk_with(told("arjm90or arjmg0or arjmn0or arjmu0or", rows, worths))
+        self.refused(Taken, desk, "lay arjmu0or 9 arjmu0or 2  2/425")
+        self.refused(NoRow, desk, "lay arjmu0or 9 arjmu0or 2 2/425")
+        self.refused(NoRow, desk, "lay arjmu0or 9 arjmu0or 2  w 2/425")
+
+    def test_rows_of_all_sorts_of_words(self):
+        dice = random.Random(156)
+        seen = {}
+        for number in range(6000):
+            net = dice.choice([ONE_POST, STAR, TWINS, TRIANGLE, LOOP_WITHIN])
+            word = dice.choice(sorted(DEEDS_BY_WORDS))
+            words = [word] + [dice.choice(WORDS_TRIED[kind]) for kind in DEEDS_BY_WORDS[word]]
+            if dice.randrange(8) == 0:
+                words.insert(dice.randrange(len(words) + 1), "")
+            row = " ".join(words)
+            deed = deed_by_words(row)
+            desk = self.desk_with(net)
+            try:
+                asked = NoRow if deed is None else net_shown(deed_done(net, deed))
+            except RimError as refusal:
+                asked = refusal.__class__
+            if isinstance(asked, str):
+                self.assertEqual(desk.say(row), "ok", row)
+                self.assertEqual(desk.say("show"), asked)
+                seen["ok"] = True
+            else:
+                self.refused(asked, desk, row)
+                seen[asked] = True
+        for answer in ("ok", NoRow, NoCorner, NoRegion, Taken, NoWire, NoStep):
+            self.assertIn(answer, seen)
 
     # NoRow comes ahead of what the names would be refused with; else each refusal has its own class.
     def test_no_row_first(self):
